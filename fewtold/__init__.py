@@ -1,0 +1,1 @@
+"""Fewtold: a row with few numbers, told by fewer sums."""
