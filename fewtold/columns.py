@@ -6,23 +6,13 @@ basis is a list of pairs of a pivot and a marked column that is not 0 there; eac
 of these columns is 0 at all pivots before its own.
 """
 
-from math import gcd, lcm
-
-from fewtold.rows import reduced
-
-
-def _whole_row(row):
-    """The numbers of a row times their least common denominator."""
-    common = 1
-    for number in row:
-        common = lcm(common, number[1])
-    return [number[0] * (common // number[1]) for number in row]
+from fewtold.rows import lowest, reduced, whole_row
 
 
 def _marked_columns(table):
     """The columns of a table, each marked once with itself."""
     # A row of the table may be multiplied: the rows whose sum it makes 0 are the same.
-    rows = [_whole_row(row) for row in table]
+    rows = [whole_row(row) for row in table]
     many = len(rows[0])
     columns = []
     for place in range(many):
@@ -32,20 +22,12 @@ def _marked_columns(table):
     return columns
 
 
-def _lowest(numbers):
-    """Whole numbers, not all 0, divided by what divides all of them."""
-    common = 0
-    for number in numbers:
-        common = gcd(common, number)
-    return [number // common for number in numbers]
-
-
 def _cleared(column, basis):
     """A multiple of a marked column, less multiples of the basis, 0 at all pivots."""
     for pivot, other in basis:
         here, there = other[pivot], column[pivot]
         # Dividing at each step keeps the numbers from doubling in length each time.
-        column = _lowest([here * one - there * two for one, two in zip(column, other)])
+        column = lowest([here * one - there * two for one, two in zip(column, other)])
     return column
 
 
@@ -76,16 +58,31 @@ def _least_marks(columns, height, start, basis):
     return found
 
 
-def _told_row(marks):
-    """The multiple of marks, as a row, of which the first number other than 0 is 1."""
+def _upright(marks):
+    """Marks or their opposite, whichever has a first number above 0."""
     first = [mark for mark in marks if mark != 0][0]
-    return tuple(reduced(mark, first) for mark in marks)
+    return marks if first > 0 else opposite(marks)
+
+
+def opposite(marks):
+    """Marks with all signs changed."""
+    return [-mark for mark in marks]
+
+
+def least_marks(table):
+    """Each least dependence in whole numbers, the first above 0, in the order of the lots."""
+    return [_upright(marks) for marks in _least_marks(_marked_columns(table), len(table), 0, [])]
+
+
+def told_row(marks):
+    """The row that is marks divided by the size of the first one other than 0."""
+    first = [mark for mark in marks if mark != 0][0]
+    return tuple(reduced(mark, abs(first)) for mark in marks)
 
 
 def all_least(table):
     """The least dependences of a table, in the order of their lots."""
-    found = _least_marks(_marked_columns(table), len(table), 0, [])
-    return tuple(_told_row(marks) for marks in found)
+    return tuple(told_row(marks) for marks in least_marks(table))
 
 
 def are_free(table, lot):
@@ -99,3 +96,40 @@ def are_free(table, lot):
             return False
         basis.append((pivot, column))
     return True
+
+
+def _with_sums(table, sums):
+    """A table with sums as one column more, the last."""
+    return tuple(row + (number,) for row, number in zip(table, sums))
+
+
+def _behind(marks):
+    """The row whose sums the last column is, by marks of it and the columns before."""
+    return tuple(reduced(-mark, marks[-1]) for mark in marks[:-1])
+
+
+def free_rows(table, sums):
+    """All rows with these sums whose lots are free, in the order of their lots.
+
+    They stand before the last column in the least dependences that hold it: of two
+    such rows with one lot, or of a lot that is not free, there would be a lesser one.
+    No such lot is a part of another one: so the last column leaves the order as it is.
+    """
+    found = least_marks(_with_sums(table, sums))
+    return [_behind(marks) for marks in found if marks[-1] != 0]
+
+
+def any_row(table, sums):
+    """Any row with these sums; None."""
+    columns = _marked_columns(_with_sums(table, sums))
+    height = len(table)
+    basis = []
+    for marked in columns[:-1]:
+        column = _cleared(marked, basis)
+        pivot = _pivot(column, height)
+        if pivot is not None:
+            basis.append((pivot, column))
+    column = _cleared(columns[-1], basis)
+    if _pivot(column, height) is not None:
+        return None
+    return _behind(column[height:])

@@ -263,3 +263,58 @@ def no_lots(many):
     bent.append((lot + tuple(range(many, 100)), many))
     bent.append(((many,) * 9, 0))
     return bent
+
+
+NO_AMOUNTS = NO_FRACTIONS + (NIL, LESS, (-1, 2), (-LONG, 1), (-1, LONG))
+NO_SIGNS = tuple(value for value in NO_TUPLES if type(value) is not int or value not in (-1, 0, 1)) + (
+    2, -2, 8, 1 - LONG, (), (0,), (1,), NIL, ONE, LESS, [0], "-1", Fraction(-1),
+)
+NO_NUMBERS = tuple(value for value in NO_TUPLES if not same(value, 1)) + (
+    0, 7, 8, 9, -1, -6, 1 - LONG, (), (1,), ONE, [1], "6", {6}, Fraction(2),
+)
+
+
+def no_amounts(many):
+    """Pairs of a value that is no amounts for so many columns, and the index told for it."""
+    bent = [(value, index) for value, index in no_rows(many)]
+    amounts = row_of(*[Fraction(2, place + 1) for place in range(many)])
+    for place in range(many):
+        bent.extend((with_item(amounts, place, wrong), place) for wrong in NO_AMOUNTS)
+        bent.append((amounts[:place] + (NIL,) * (many - place), place))
+        bent.append((with_item(with_item(amounts, many - 1, None), place, LESS), place))
+    return bent
+
+
+def no_signs(many):
+    """Pairs of a value that is no signs for so many columns, and the index told for it."""
+    signs = tuple((-1, 0, 1)[place % 3] for place in range(many))
+    nones = list(NO_TUPLES) + [
+        signs + (0,), signs[1:], signs + signs, (), list(signs), dict(enumerate(signs)), (0,) * 9, (0,) * 100,
+        range(many), (None,) * (many + 1), row_of(*[1] * (many + 1)),
+    ]
+    bent = [(value, None) for value in nones if not (type(value) is tuple and len(value) == many)]
+    for place in range(many):
+        bent.extend((with_item(signs, place, wrong), place) for wrong in NO_SIGNS)
+        bent.append((signs[:place] + (2,) * (many - place), place))
+        bent.append((with_item(with_item(signs, many - 1, None), place, True), place))
+    return bent
+
+
+def no_places():
+    """Pairs of a value that is no places, and the index told for it."""
+    right = row_of(0, 1, Fraction(-1, 2), 2, LONG, -3, Fraction(1, LONG), 7)
+    bent = [(value, None) for value in NO_TUPLES if value != ()]
+    bent += [(value, None) for value in ((), list(right), right + (THREE,), right * 2, (None,) * 9, {right[0]})]
+    for many in range(1, 9):
+        for place in range(many):
+            bent.extend((with_item(right[:many], place, wrong), place) for wrong in NO_FRACTIONS)
+            for other in range(place + 1, many):
+                bent.append((with_item(right[:many], other, right[place]), other))
+            bent.append((right[:place] + (None,) * (many - place), place))
+    bent.append(((NIL, NIL, None), 1))
+    bent.append(((NIL, None, NIL), 1))
+    bent.append(((ONE, TWO, ONE, (2, 4)), 2))
+    bent.append(((ONE, TWO, (2, 2), ONE), 2))
+    bent.append((NIL, 0))
+    bent.append((right[:3] + ((True, 1),), 3))
+    return bent
