@@ -3,9 +3,11 @@
 from fewtold.checks import check_count, check_table, check_table_amounts
 from fewtold.columns import least_marks, told_row
 from fewtold.errors import NotBack
-from fewtold.letting import barring_marks, letting_wholes
+from fewtold.letting import letting_wholes
 from fewtold.rows import LESS, reduced, row_minus, row_on, row_times, whole_row
-from fewtold.shares import are_below, dearest_lot, dearest_pair, greatest_quotient, least_weights, weights_of
+from fewtold.shares import (
+    are_below, barring_marks, dearest_lot, dearest_pair, greatest_quotient, least_weights, weights_of,
+)
 
 
 def most_back(table, amounts):

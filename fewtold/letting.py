@@ -15,16 +15,7 @@ are whole numbers above one whole number, `below`.
 """
 
 from fewtold.rows import lowest
-from fewtold.shares import dearest_lot, dearest_pair, weights_of
-
-
-def barring_marks(least, wholes, count):
-    """The first least dependence whose dearest places do not cost less than the others; None."""
-    for marks in least:
-        dearest, others = dearest_pair(weights_of(marks, wholes), count)
-        if dearest >= others:
-            return marks
-    return None
+from fewtold.shares import barring_marks, dearest_lot, weights_of
 
 
 def letting_wholes(least, many, count):

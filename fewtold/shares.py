@@ -38,6 +38,15 @@ def dearest_pair(weights, count):
     return lot_pair(weights, dearest_lot(weights, count))
 
 
+def barring_marks(least, wholes, count):
+    """The first least dependence whose dearest places do not cost less than the others; None."""
+    for marks in least:
+        dearest, others = dearest_pair(weights_of(marks, wholes), count)
+        if dearest >= others:
+            return marks
+    return None
+
+
 def signed_sum(weights, signs):
     """The sum of the weights, each times the sign at its place."""
     return sum(weight * sign for weight, sign in zip(weights, signs))
@@ -57,7 +66,7 @@ def are_below(pairs):
 def greatest_quotient(pairs):
     """The greatest of the first of a pair divided by the second, 0 if there is no pair.
 
-    None if some second one is 0: then all of some least dependence is told places.
+    None if some second one is 0: some least dependence then has no other places.
     """
     best = NOUGHT
     for one, other in pairs:

@@ -268,6 +268,18 @@ class BackTest(unittest.TestCase):
                         lets = letting_amounts(table, count) is not None
                         self.assertIs(lets, is_back(table, ones(6), count), (table, count))
 
+    def test_letting_amounts_are_above_nought_where_0_would_nearly_do(self):
+        first = table_of(
+            [0, 0, 1, -1, 1, 0, 1, 0], [-1, -1, 0, 1, 1, 1, 1, -1], [-1, 1, 0, 0, 0, 1, -1, 0],
+            [-1, 0, 1, 0, 0, 0, 0, -1], [1, 0, 1, -1, 1, 1, 0, 0], [1, 1, -1, -1, 0, 1, -1, -1],
+        )
+        second = table_of(
+            [1, -1, 0, 0, -1, 0, -1, 0], [1, 0, 1, 1, 0, -1, -1, -1], [1, -1, 1, 1, 0, 0, 1, 1],
+            [0, -1, 1, 1, -1, -1, -1, 1], [0, -1, 1, 0, -1, 0, 1, -1], [1, 0, 0, 1, -1, -1, 0, 0],
+        )
+        for table in (first, second):
+            self.assertIs(self._check_letting(table, 2), True)
+
     def test_letting_amounts_of_powers(self):
         for height in (3, 4, 5, 6):
             places = [1, 2, 3, 4, 5, 6, 7, 9]
