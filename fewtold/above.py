@@ -2,22 +2,22 @@
 
 from fewtold.between import prices_between
 from fewtold.checks import check_count, check_lot, check_many, check_places, check_table, check_table_amounts
-from fewtold.columns import least_marks, opposite, told_row
-from fewtold.rows import NOUGHT, ONE, reduced, times, whole_row
-from fewtold.shares import weights_of
+from fewtold.columns import told_row
+from fewtold.rows import NOUGHT, ONE, reduced, times
+from fewtold.upward import both_ways, held_marks, low_marks, not_dear, number_below, sums_off
 
 
 def is_only_above(table, count):
     """Whether each row from 0 on with at most so many numbers is the only one with its sums."""
     check_table(table)
     check_count(count)
-    return _low_marks(table, count) is None
+    return low_marks(both_ways(table), count) is None
 
 
 def most_above(table):
     """The greatest k, up to the number of columns, for which each such row is the only one; None."""
     check_table(table)
-    fewest = min([_number_below(marks) for marks in _both_ways(table)], default=len(table[0]) + 1)
+    fewest = min([number_below(marks) for marks in both_ways(table)], default=len(table[0]) + 1)
     return None if fewest == 0 else fewest - 1
 
 
@@ -25,7 +25,7 @@ def low_dependence(table, count):
     """A least dependence, or the opposite of one, with at most so many numbers below 0; None."""
     check_table(table)
     check_count(count)
-    marks = _low_marks(table, count)
+    marks = low_marks(both_ways(table), count)
     return None if marks is None else told_row(marks)
 
 
@@ -33,14 +33,14 @@ def is_lot_above(table, lot):
     """Whether each row from 0 on with just this lot is the only one with its sums."""
     check_table(table)
     check_lot(lot, len(table[0]))
-    return _is_lot_above(table, lot)
+    return held_marks(table, lot) is None
 
 
 def facing_row(table, lot):
     """A row whose product with each column of the lot is 0, with each other one above 0; None."""
     check_table(table)
     check_lot(lot, len(table[0]))
-    if not _is_lot_above(table, lot):
+    if held_marks(table, lot) is not None:
         return None
     most = _most_turned(table, lot)
     places = range(len(table[0]))
@@ -53,20 +53,20 @@ def is_back_above(table, amounts, count):
     """Whether each row from 0 on with so few numbers costs less than all others with its sums."""
     check_table_amounts(table, amounts)
     check_count(count)
-    return _cheap_marks(table, amounts, count) is None
+    return low_marks(not_dear(table, amounts), count) is None
 
 
 def most_back_above(table, amounts):
     """The greatest k, up to the number of columns, for which each such row costs least."""
     check_table_amounts(table, amounts)
-    return min([_number_below(marks) for marks in _not_dear(table, amounts)], default=len(amounts) + 1) - 1
+    return min([number_below(marks) for marks in not_dear(table, amounts)], default=len(amounts) + 1) - 1
 
 
 def cheap_dependence(table, amounts, count):
     """A least dependence, or an opposite, with so few numbers below 0 and no cost above 0; None."""
     check_table_amounts(table, amounts)
     check_count(count)
-    marks = _cheap_marks(table, amounts, count)
+    marks = low_marks(not_dear(table, amounts), count)
     return None if marks is None else told_row(marks)
 
 
@@ -80,49 +80,6 @@ def power_table(places, many):
     return tuple(rows)
 
 
-def _both_ways(table):
-    """The least dependences, each before its opposite, in whole numbers."""
-    return [marks for upright in least_marks(table) for marks in (upright, opposite(upright))]
-
-
-def _number_below(marks):
-    """How many numbers are below 0."""
-    return len([mark for mark in marks if mark < 0])
-
-
-def _low_marks(table, count):
-    """The first of the least ones and opposites with at most so many numbers below 0; None."""
-    for marks in _both_ways(table):
-        if _number_below(marks) <= count:
-            return marks
-    return None
-
-
-def _not_dear(table, amounts):
-    """The least ones and opposites whose sum of numbers times amounts is not above 0."""
-    wholes = whole_row(amounts)
-    return [marks for marks in _both_ways(table) if sum(weights_of(marks, wholes)) <= 0]
-
-
-def _cheap_marks(table, amounts, count):
-    """The first of those that are not dear with at most so many numbers below 0; None."""
-    for marks in _not_dear(table, amounts):
-        if _number_below(marks) <= count:
-            return marks
-    return None
-
-
-def _sums_off(marks, lot):
-    """The sizes below 0 and those above 0 at the places off a lot, each added up."""
-    off_lot = [mark for place, mark in enumerate(marks) if place not in lot]
-    return (sum(-mark for mark in off_lot if mark < 0), sum(mark for mark in off_lot if mark > 0))
-
-
-def _is_lot_above(table, lot):
-    """Whether each dependence has a number below 0 off the lot."""
-    return all(_sums_off(marks, lot)[0] > 0 for marks in _both_ways(table))
-
-
 def _most_turned(table, lot):
     """A number such that some facing row has products from 1 up to it with the columns off the lot.
 
@@ -130,8 +87,8 @@ def _most_turned(table, lot):
     times 1, is at most what is below 0, each times this number.
     """
     most = ONE
-    for marks in _both_ways(table):
-        below, above = _sums_off(marks, lot)
+    for marks in both_ways(table):
+        below, above = sums_off(marks, lot)
         if above * most[1] > most[0] * below:
             most = reduced(above, below)
     return most

@@ -3,8 +3,8 @@
 from fewtold.checks import check_count, check_table, check_table_amounts
 from fewtold.columns import least_marks, told_row
 from fewtold.errors import NotBack
-from fewtold.letting import letting_wholes
-from fewtold.rows import LESS, reduced, row_minus, row_on, row_times, whole_row
+from fewtold.letting import letting_or_barring
+from fewtold.rows import LESS, reduced, row_minus, row_of_wholes, row_on, row_times, whole_row
 from fewtold.shares import (
     are_below, barring_marks, dearest_lot, dearest_pair, greatest_quotient, least_weights, weights_of,
 )
@@ -70,8 +70,8 @@ def letting_amounts(table, count):
     """Amounts with which the table gives back a count; None."""
     check_table(table)
     check_count(count)
-    wholes = letting_wholes(least_marks(table), len(table[0]), count)
-    return None if wholes is None else tuple((whole, 1) for whole in wholes)
+    wholes, _ = letting_or_barring(least_marks(table), len(table[0]), count)
+    return None if wholes is None else row_of_wholes(wholes)
 
 
 def _pairs(found, count):

@@ -4,7 +4,9 @@ from fewtold.between import prices_between
 from fewtold.checks import check_row, check_table_amounts
 from fewtold.columns import free_rows, least_marks, opposite
 from fewtold.errors import NoRow
-from fewtold.rows import LESS, ONE, cost_of, is_below, lot_of, over, row_times, signs_of, times, whole_row
+from fewtold.rows import (
+    LESS, ONE, cost_of, is_below, lot_of, over, row_of_wholes, row_times, signs_of, times, whole_row,
+)
 from fewtold.shares import are_below, greatest_quotient, least_weights, signed_pair, signed_sum, weights_of
 
 
@@ -31,10 +33,16 @@ def cheapest_corners(table, amounts, sums):
 
 def price_row(table, amounts, sums):
     """A row whose product with these sums is the least cost, with no column more than its amount."""
+    _, prices = row_and_prices(table, amounts, sums)
+    return prices
+
+
+def row_and_prices(table, amounts, sums):
+    """A cheapest row with these sums whose lot is free, and a price row of the sums."""
     check_table_amounts(table, amounts)
     check_row(sums, len(table))
-    signs = signs_of(_corners(table, amounts, sums)[0])
-    return _prices(table, amounts, signs, ONE)
+    row = _corners(table, amounts, sums)[0]
+    return row, _prices(table, amounts, signs_of(row), ONE)
 
 
 def is_cheapest(table, amounts, row):
@@ -123,4 +131,4 @@ def _within(marks, row):
     for factor in factors:
         if is_below(factor, first):
             first = factor
-    return row_times(first, tuple((mark, 1) for mark in marks))
+    return row_times(first, row_of_wholes(marks))

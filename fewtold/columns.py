@@ -80,6 +80,22 @@ def told_row(marks):
     return tuple(reduced(mark, abs(first)) for mark in marks)
 
 
+def only_marks(table):
+    """The marks of a dependence, if all others are multiples of it; None."""
+    height = len(table)
+    basis, found = [], None
+    for marked in _marked_columns(table):
+        column = _cleared(marked, basis)
+        pivot = _pivot(column, height)
+        if pivot is not None:
+            basis.append((pivot, column))
+        elif found is not None:
+            return None
+        else:
+            found = _upright(column[height:])
+    return found
+
+
 def all_least(table):
     """The least dependences of a table, in the order of their lots."""
     return tuple(told_row(marks) for marks in least_marks(table))

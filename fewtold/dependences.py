@@ -3,7 +3,7 @@
 from fewtold.checks import check_row, check_table
 from fewtold.columns import all_least
 from fewtold.errors import NotDependent
-from fewtold.rows import NOUGHT, has_sums_of_noughts, is_below, lot_of, over, row_minus, row_times
+from fewtold.rows import NOUGHT, is_below, is_dependence_of, lot_of, over, row_minus, row_times
 
 
 def least_dependences(table):
@@ -16,14 +16,14 @@ def is_dependence(table, row):
     """Whether a row is a dependence of the table; noughts are none."""
     check_table(table)
     check_row(row, len(table[0]))
-    return _depends(table, row)
+    return is_dependence_of(table, row)
 
 
 def parts_of(table, row):
     """Multiples of least dependences, nowhere of opposite signs, whose sum is the row."""
     check_table(table)
     check_row(row, len(table[0]))
-    if not _depends(table, row):
+    if not is_dependence_of(table, row):
         raise NotDependent()
     parts = []
     rest = row
@@ -37,11 +37,6 @@ def parts_of(table, row):
             parts.append(part)
             rest = row_minus(rest, part)
     return tuple(parts)
-
-
-def _depends(table, row):
-    """Whether a row is not noughts and has sums of noughts."""
-    return lot_of(row) != () and has_sums_of_noughts(table, row)
 
 
 def _greatest_factor(rest, least):

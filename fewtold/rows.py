@@ -48,6 +48,26 @@ def sum_of_products(one, other):
     return total
 
 
+def all_sums(table, row):
+    """A x: for each row of the table the sum of its products with a row."""
+    return tuple(sum_of_products(numbers, row) for numbers in table)
+
+
+def products_of(table, numbers):
+    """A'y: for each column the sum of its products with numbers, one for each row of the table."""
+    return tuple(sum_of_products(column, numbers) for column in zip(*table))
+
+
+def whole_product(one, other):
+    """The sum of the products of two rows of whole numbers, place by place."""
+    return sum(here * there for here, there in zip(one, other))
+
+
+def row_plus(one, other):
+    """The sum of two rows, place by place."""
+    return tuple(plus(here, there) for here, there in zip(one, other))
+
+
 def row_minus(one, other):
     """What is left of a row when another one is taken away."""
     return tuple(minus(here, there) for here, there in zip(one, other))
@@ -70,6 +90,11 @@ def whole_row(row):
     """The numbers of a row times their least common denominator."""
     common = common_bottom(row)
     return [top * (common // bottom) for top, bottom in row]
+
+
+def row_of_wholes(wholes):
+    """The row of whole numbers."""
+    return tuple((whole, 1) for whole in wholes)
 
 
 def lowest(wholes):
@@ -95,11 +120,27 @@ def row_on(row, lot):
     return tuple(number if place in lot else NOUGHT for place, number in enumerate(row))
 
 
+def size_of(number):
+    """A fraction without its sign."""
+    return (abs(number[0]), number[1])
+
+
+def sizes_of(row):
+    """The row of the sizes of the numbers of a row."""
+    return tuple(size_of(number) for number in row)
+
+
 def cost_of(amounts, row):
     """The sum of the sizes of a row, each times the amount at its place."""
-    return sum_of_products(amounts, [(abs(top), bottom) for top, bottom in row])
+    return sum_of_products(amounts, sizes_of(row))
 
 
 def has_sums_of_noughts(table, row):
     """Whether all sums of a row are 0."""
-    return all(sum_of_products(numbers, row) == NOUGHT for numbers in table)
+    wholes = whole_row(row)
+    return all(whole_product(whole_row(numbers), wholes) == 0 for numbers in table)
+
+
+def is_dependence_of(table, row):
+    """Whether a row is not noughts and has sums of noughts."""
+    return lot_of(row) != () and has_sums_of_noughts(table, row)

@@ -7,7 +7,7 @@ pair is what some places cost together and what the others do.
 """
 
 from fewtold.columns import least_marks
-from fewtold.rows import NOUGHT, reduced, whole_row
+from fewtold.rows import NOUGHT, reduced, whole_product, whole_row
 
 
 def weights_of(marks, wholes):
@@ -38,18 +38,32 @@ def dearest_pair(weights, count):
     return lot_pair(weights, dearest_lot(weights, count))
 
 
-def barring_marks(least, wholes, count):
-    """The first least dependence whose dearest places do not cost less than the others; None."""
+def barring_marks(least, wholes, count, margin=0):
+    """The first least dependence whose dearest places, and a margin, do not cost less than the others; None."""
     for marks in least:
         dearest, others = dearest_pair(weights_of(marks, wholes), count)
-        if dearest >= others:
+        if dearest + margin >= others:
+            return marks
+    return None
+
+
+def barring_on(least, wholes, lot):
+    """The first least dependence that does not cost less on the lot than elsewhere; None."""
+    for marks in least:
+        on_lot, elsewhere = lot_pair(weights_of(marks, wholes), lot)
+        if on_lot >= elsewhere:
             return marks
     return None
 
 
 def signed_sum(weights, signs):
     """The sum of the weights, each times the sign at its place."""
-    return sum(weight * sign for weight, sign in zip(weights, signs))
+    return whole_product(weights, signs)
+
+
+def rise_along(weights, signs):
+    """What the weights add to the cost of a row of these signs, as long as no sign turns."""
+    return signed_sum(weights, signs) + signed_pair(weights, signs)[1]
 
 
 def signed_pair(weights, signs):

@@ -5,7 +5,7 @@ from itertools import combinations
 from fewtold.checks import check_count, check_lot, check_signs, check_table_amounts
 from fewtold.columns import least_marks, told_row
 from fewtold.rows import LESS, row_on, row_times, whole_row
-from fewtold.shares import are_below, greatest_quotient, least_weights, lot_pair, signed_pair, weights_of
+from fewtold.shares import are_below, barring_on, greatest_quotient, least_weights, lot_pair, signed_pair
 
 
 def is_signed_back(table, amounts, signs):
@@ -48,12 +48,8 @@ def lost_row(table, amounts, lot):
     """A row with 0 outside of the lot that does not come back; None."""
     check_table_amounts(table, amounts)
     check_lot(lot, len(amounts))
-    wholes = whole_row(amounts)
-    for marks in least_marks(table):
-        on_lot, elsewhere = lot_pair(weights_of(marks, wholes), lot)
-        if on_lot >= elsewhere:
-            return row_times(LESS, row_on(told_row(marks), lot))
-    return None
+    marks = barring_on(least_marks(table), whole_row(amounts), lot)
+    return None if marks is None else row_times(LESS, row_on(told_row(marks), lot))
 
 
 def lots_back(table, amounts, count):

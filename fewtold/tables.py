@@ -2,7 +2,7 @@
 
 from fewtold.checks import check_lot, check_row, check_table, has_table_form
 from fewtold.columns import are_free
-from fewtold.rows import sum_of_products
+from fewtold.rows import all_sums
 
 
 def is_table(value):
@@ -14,7 +14,7 @@ def sums_of(table, row):
     """For each row of the table the sum of its products with a row."""
     check_table(table)
     check_row(row, len(table[0]))
-    return tuple(sum_of_products(numbers, row) for numbers in table)
+    return all_sums(table, row)
 
 
 def is_free(table, lot):

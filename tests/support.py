@@ -224,6 +224,29 @@ def no_tables(table):
     return bent
 
 
+def no_readings(readings):
+    """Values that are no readings, most of them these, bent."""
+    many, width = len(readings), len(readings[0])
+    column = tuple(row[0] for row in readings)
+    bent = list(NO_TUPLES) + [
+        (), ((),), ((), ()), ONE, column, (readings,), list(readings), [list(row) for row in readings],
+        dict(enumerate(readings)), (None,), (1,), ("11",), ([ONE],), readings + ((),), readings + (None,),
+        readings + (readings[0] + (ONE,),), readings + ((ONE,) * (5 - width) + readings[0],),
+        ((NIL,),), ((NIL,) * width,) * 8, tuple((NIL,) * width for _ in readings), ((ONE, ONE), (TWO, TWO)),
+        ((ONE, NIL, ONE), (NIL, ONE, ONE), (ONE, ONE, TWO), (TWO, ONE, THREE)), ((ONE, TWO),), ((ONE,) * 4,) * 8,
+        ((ONE,),) * 9, readings + (readings[0],) * (9 - many), identity(5), tuple(row + row for row in readings),
+        tuple(row + (NIL,) for row in readings), tuple(row + (row[0],) for row in readings), readings[:width - 1],
+        table_of([1, 2, 3, 4, 5], [0, 1, 0, 0, 0], [0, 0, 1, 0, 0], [0, 0, 0, 1, 0], [0, 0, 0, 0, 1]), ((ONE,),) * 100,
+    ]
+    for at, row in enumerate(readings):
+        wrong_rows = [row + (ONE,), row[1:], list(row), None, (), 1, "row", dict(enumerate(row)), (row,), row[0]]
+        if many > 1:
+            bent.extend(with_item(readings, at, wrong) for wrong in wrong_rows)
+        for place in range(width):
+            bent.extend(with_item(readings, at, with_item(row, place, wrong)) for wrong in NO_FRACTIONS)
+    return bent
+
+
 def no_rows(many):
     """Pairs of a value that is no row of so many fractions, and the index told for it."""
     row = row_of(*[Fraction(place + 1, 2) for place in range(many)])
