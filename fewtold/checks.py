@@ -22,7 +22,7 @@ def is_whole(value):
 
 
 def is_tuple_of(value, many):
-    """Whether a value is a tuple of so many elements, whatever they are."""
+    """Whether a value is a tuple of so many things, whatever they are."""
     return type(value) is tuple and len(value) == many
 
 
